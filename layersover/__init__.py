@@ -1,0 +1,1 @@
+"""Layers put together: a picture made of layers and groups, one over another."""
