@@ -3,16 +3,13 @@
 The checks of each call stand in the order in which the document tells its refusals.
 """
 
-from layersover.things import Group, Layer, all_things, find_thing, holder_of, place_of
-
-BAD_NUMBER = -1
-NO_THING = -2
-UNFIT = -3
-FULL = -5
+from layersover.refusals import BAD_NUMBER, FULL, NO_THING, UNFIT
+from layersover.seen import shown_row
+from layersover.things import GREATEST_LEVEL, Group, Layer
+from layersover.things import all_things, find_thing, holder_of, place_of, place_of_pixel, take_out
 
 LONGEST_SIDE = 8
 MOST_THINGS = 10
-GREATEST_LEVEL = 255
 GREATEST_WAY = 6
 # Where a layer lies is told so much more than it is, so that no number handed in is below 0.
 TOLD_MORE = 32
@@ -110,9 +107,39 @@ def paint_layer(picture, number, x, y, colour, cover):
         return NO_THING
     if not isinstance(layer, Layer):
         return UNFIT
-    if x >= layer.width or y >= layer.height:
+    place = place_of_pixel(layer, x, y)
+    if place is None:
         return BAD_NUMBER
-    place = 2 * (y * layer.width + x)
     layer.pixels[place] = colour
     layer.pixels[place + 1] = cover
     return 0
+
+
+def drop_thing(picture, number):
+    holder = holder_of(picture, number)
+    if holder is None:
+        return NO_THING
+    take_out(holder, number)
+    return len(all_things(picture))
+
+
+def lift_thing(picture, number, p):
+    thing = find_thing(picture, number)
+    if thing is None:
+        return NO_THING
+    # It can't be below itself, so it doesn't count where it's in no group already.
+    others = [other for other in picture.things if other.number != number]
+    if p > len(others):
+        return BAD_NUMBER
+    take_out(holder_of(picture, number), number)
+    picture.things = others[:p] + [thing] + others[p:]
+    return 0
+
+
+def make_flat(picture):
+    pixels = []
+    for y in range(picture.height):
+        pixels.extend(shown_row(picture, y))
+    number = picture.take_number()
+    picture.things = [Layer(number, 0, 0, picture.width, picture.height, pixels)]
+    return number

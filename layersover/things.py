@@ -1,12 +1,15 @@
 """What a picture holds: layers and groups, each with its number."""
 
+# Of colours, of covers and of how strong a thing is.
+GREATEST_LEVEL = 255
+
 
 class Thing:
 
     def __init__(self, number):
         self.number = number
         self.seen = 1
-        self.strong = 255
+        self.strong = GREATEST_LEVEL
         self.way = 0
         self.clipped = 0
 
@@ -85,4 +88,16 @@ def holder_of(picture, number):
     for holder in [picture] + groups:
         if place_of(holder, number) is not None:
             return holder
+    return None
+
+
+# Takes this thing, with what's in it, out of the picture or the group right in which it stands.
+def take_out(holder, number):
+    holder.things = [thing for thing in holder.things if thing.number != number]
+
+
+# Where in a layer's pixels its own pixel (x, y) begins; None if it hasn't such a pixel.
+def place_of_pixel(layer, x, y):
+    if 0 <= x < layer.width and 0 <= y < layer.height:
+        return 2 * (y * layer.width + x)
     return None

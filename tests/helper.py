@@ -36,6 +36,34 @@ def paint(thing, x, y, colour, cover):
     return [7, thing, x, y, colour, cover]
 
 
+def drop(thing):
+    return [8, thing]
+
+
+def lift(thing, p):
+    return [9, thing, p]
+
+
+def dot(x=0, y=0):
+    return [10, x, y]
+
+
+def row(y=0):
+    return [11, y]
+
+
+def matters(x=0, y=0):
+    return [12, x, y]
+
+
+def flat():
+    return [13]
+
+
+def list_all():
+    return [14]
+
+
 def layers(count):
     return [layer() for k in range(count)]
 
@@ -44,16 +72,45 @@ def in_one(rows):
     return [number for row in rows for number in row]
 
 
+def by_call(given):
+    """The answers in one list, taken apart: a list of numbers for each call."""
+    apart = []
+    place = 0
+    while place < len(given):
+        end = place + 1 + given[place]
+        apart.append(given[place + 1:end])
+        place = end
+    return apart
+
+
+def given(rows):
+    apart = by_call(answers(in_one(rows)))
+    if len(apart) != len(rows):
+        raise AssertionError("not an answer for each call: " + repr(apart))
+    return apart
+
+
 def firsts(rows):
     """The one number that each of these calls answers."""
-    given = answers(in_one(rows))
-    if len(given) != 2 * len(rows) or given[0::2] != [1] * len(rows):
-        raise AssertionError("not one number for each call: " + repr(given))
-    return given[1::2]
+    apart = given(rows)
+    if any(len(numbers) != 1 for numbers in apart):
+        raise AssertionError("not one number for each call: " + repr(apart))
+    return in_one(apart)
 
 
 def last(rows):
-    return firsts(rows)[-1]
+    """What the last of these calls answers, number by number."""
+    return given(rows)[-1]
+
+
+def all_dots(rows):
+    """Of each pixel, row by row, what dot answers behind these calls."""
+    picture = picture_after(rows)
+    return [last(rows + [dot(x, y)]) for y in range(picture.height) for x in range(picture.width)]
+
+
+def all_rows(rows):
+    return [last(rows + [row(y)]) for y in range(picture_after(rows).height)]
 
 
 def picture_after(rows):
@@ -90,9 +147,15 @@ class CallCase(unittest.TestCase):
     def refused(self, rows, call, refusal):
         """This call behind these rows is refused so, and all is as it was."""
         with self.subTest(call=call[:8], refusal=refusal):
-            self.assertEqual(last(rows + [call]), refusal)
+            self.assertEqual(last(rows + [call]), [refusal])
             self.assertEqual(state(rows + [call]), state(rows))
 
     def taken(self, rows, call, answer=0):
         with self.subTest(call=call[:8], answer=answer):
+            self.assertEqual(last(rows + [call]), [answer])
+
+    def looked(self, rows, call, answer):
+        """This call behind these rows answers so, number by number, and all is as it was."""
+        with self.subTest(call=call, answer=answer):
             self.assertEqual(last(rows + [call]), answer)
+            self.assertEqual(state(rows + [call]), state(rows))
